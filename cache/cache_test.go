@@ -9,7 +9,6 @@ import (
 
 	"hustings/api"
 	"hustings/cache"
-	"hustings/name"
 	"hustings/verdict"
 )
 
@@ -353,9 +352,6 @@ func TestP16_8Independence(t *testing.T) {
 	row(t, c)
 	row(t, d, "\x01b\x00", ex)
 	find(t, d, ex, 3, "other", 10)
-	if name.Fold(ex) != ex {
-		t.Error("ex. is folded")
-	}
 }
 
 func TestP16_1NewMemory(t *testing.T) {

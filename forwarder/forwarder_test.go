@@ -10,7 +10,6 @@ import (
 	"hustings/api"
 	"hustings/forwarder"
 	"hustings/heard"
-	"hustings/name"
 	"hustings/wire"
 )
 
@@ -499,7 +498,4 @@ func TestP31_11Independence(t *testing.T) {
 		t.Error("changed by the copy")
 	}
 	do(t, f, says(t, 2, 6, 5, 1), toClient(7, answered(7, 1, 5)))
-	if name.Fold(ex) != ex {
-		t.Error("ex. is folded")
-	}
 }
