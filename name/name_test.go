@@ -264,7 +264,7 @@ func TestP1_3Parse(t *testing.T) {
 
 func TestP1_3ParseWrong(t *testing.T) {
 	forms := []string{"", "..", "a..", "a..b", ".a", ".a.", "a b", "a b.", " ", "a ", "\\256", "\\300.", "\\999", "\\25", "\\2", "\\", "a.\\", "\\25.",
-		"\\2a5", "\\25a", "\\ ", "\\\x7F", "\\é", "é.", "\x7F", "a\x1F", "a\n", "\xFF", "a\xC3", "\\\n", "\u00AE", rep("a", 64) + "..", rep("a.", 128) + ".",
+		"\\2a5", "\\25a", "\\2a55", "\\25a5", "\\ a", "\\\x7Fa", "\\éa", "\\\na", "\\ ", "\\\x7F", "\\é", "é.", "\x7F", "a\x1F", "a\n", "\xFF", "a\xC3", "\\\n", "\u00AE", rep("a", 64) + "..", rep("a.", 128) + ".",
 		rep("a", 64) + " ", rep("a", 300) + "\\256"}
 	for _, s := range forms {
 		if n, e := name.Parse(s); n != "" || e != api.ErrForm {
