@@ -5,6 +5,7 @@ import (
 	"math/rand"
 	"reflect"
 	"slices"
+	"strings"
 	"testing"
 
 	"hustings/api"
@@ -26,8 +27,13 @@ func zone(policy uint8, trust uint16) api.Zone {
 	return api.Zone{Name: ex, Policy: policy, Trust: trust}
 }
 
-func say(data string) api.Verdict {
-	return api.Verdict{Sets: []api.Set{{Name: ex, Type: api.A, Class: api.IN, Data: []string{data}}}}
+// say is a verdict of addresses that begin with these bytes, in increasing order.
+func say(data ...string) api.Verdict {
+	s := api.Set{Name: ex, Type: api.A, Class: api.IN}
+	for _, d := range data {
+		s.Data = append(s.Data, d+strings.Repeat("\x00", 4-len(d)))
+	}
+	return api.Verdict{Sets: []api.Set{s}}
 }
 
 func same(a, b ask.Did) bool {
@@ -220,8 +226,7 @@ func TestP26_8OtherPolicies(t *testing.T) {
 	// Union: F + 1 votes, whatever they are.
 	a = start(t, zone(api.Union, 7), []int{2, 1, 0}, base(), 0, sends(2, 1))
 	did(t, a.Vote(2, say("b"), 7, 2), ask.Did{})
-	both := say("a")
-	both.Sets[0].Data = []string{"a", "b"}
+	both := say("a", "b")
 	c := a.Copy()
 	did(t, a.Vote(1, say("a"), 5, 2), ask.Did{Over: true, Done: true, Verdict: both, Time: 5})
 	did(t, c.Pass(1, 2), sends(0))
@@ -472,7 +477,7 @@ func TestP26_6Progress(t *testing.T) {
 					at, is := first[u]
 					if is && at+delay == now && slices.Contains(good, u) {
 						first[u] = -1000
-						last = a.Vote(u, say("right"), 5, now)
+						last = a.Vote(u, say("good"), 5, now)
 						d.Sends = append(d.Sends, last.Sends...)
 						again = true
 					} else if is && at >= 0 && r.Intn(8) == 0 && !slices.Contains(good, u) {
@@ -484,7 +489,7 @@ func TestP26_6Progress(t *testing.T) {
 				}
 			}
 		}
-		if !last.Done || !verdict.Same(last.Verdict, say("right")) {
+		if !last.Done || !verdict.Same(last.Verdict, say("good")) {
 			t.Fatalf("%v %v: not decided: %+v", c, good, last)
 		}
 	}

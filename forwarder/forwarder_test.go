@@ -190,6 +190,10 @@ func TestP31_1New(t *testing.T) {
 	f, _ = forwarder.New(c, 0, first)
 	first[0], c.Zones[0].Name = 1, "\x01a\x00"
 	do(t, f, asks(7, query), toClient(7, fail[:3]+"\x85"+fail[4:]))
+	c.Zones[0].Name = "bad"
+	if out, _ := f.Do(asks(7, encode(t, api.Msg{Questions: []api.Question{{Name: "\x01a\x00", Type: api.A, Class: api.IN}}}))); len(out) != 2 {
+		t.Errorf("%+v", out)
+	}
 }
 
 func TestP31_2Errors(t *testing.T) {

@@ -75,6 +75,9 @@ func TestP24_1Query(t *testing.T) {
 }
 
 func TestP24_2Examples(t *testing.T) {
+	if heard.Bad != 1 || heard.Pass != 2 || heard.Vote != 3 {
+		t.Error("kinds")
+	}
 	kind(t, exA(), flags("\x81\x00"), heard.Vote)
 	kind(t, exA(), flags("\x83\x00"), heard.Pass)
 	kind(t, exA(), flags("\x81\x02"), heard.Pass)

@@ -39,6 +39,9 @@ func look(t *testing.T, data string, want intake.Came) {
 }
 
 func TestP25_1Dropped(t *testing.T) {
+	if intake.Drop != 1 || intake.Tell != 2 || intake.Asks != 3 {
+		t.Error("kinds")
+	}
 	drop := intake.Came{Kind: intake.Drop}
 	for n := range 12 {
 		look(t, query[:n], drop)

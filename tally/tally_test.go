@@ -253,4 +253,19 @@ func TestP21_2Copy(t *testing.T) {
 	if c.Has(2) || c.Has(3) || b.Has(1) {
 		t.Error("has")
 	}
+	// However many votes there are, those that come later are each box's own.
+	for n := range 8 {
+		b := fresh(t, 9)
+		for u := range n {
+			cast(t, b, u, "x", 1)
+		}
+		c := b.Copy()
+		cast(t, c, n, "c", 2)
+		cast(t, b, n, "b", 3)
+		for box, want := range map[*tally.Box]api.Verdict{b: say("b"), c: say("c")} {
+			if l := box.Votes(); len(l) != n+1 || !verdict.Same(l[n].Verdict, want) {
+				t.Error(n, l)
+			}
+		}
+	}
 }
