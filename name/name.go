@@ -26,11 +26,17 @@ func May(n string) bool {
 
 // lower folds each byte from A to Z; the length bytes of a name lie below A, so they stay.
 func lower(s string) string {
-	b := []byte(s)
-	for i, c := range b {
-		if 'A' <= c && c <= 'Z' {
+	var b []byte // made only if there is something to fold, as names mostly are folded already
+	for i := range len(s) {
+		if c := s[i]; 'A' <= c && c <= 'Z' {
+			if b == nil {
+				b = []byte(s)
+			}
 			b[i] = c + 0x20
 		}
+	}
+	if b == nil {
+		return s
 	}
 	return string(b)
 }
@@ -87,13 +93,35 @@ func Compare(a, b string) int {
 	if !May(a) || !May(b) {
 		return 0
 	}
-	la, lb := Labels(lower(a)), Labels(lower(b))
-	for i := 1; i <= len(la) && i <= len(lb); i++ {
-		if c := strings.Compare(la[len(la)-i], lb[len(lb)-i]); c != 0 {
+	a, b = lower(a), lower(b)
+	pa, pb := placesOf(a), placesOf(b)
+	for i := 1; i <= pa.count && i <= pb.count; i++ {
+		if c := strings.Compare(pa.fromEnd(a, i), pb.fromEnd(b, i)); c != 0 {
 			return c
 		}
 	}
-	return sign(len(la) - len(lb))
+	return sign(pa.count - pb.count)
+}
+
+// places are where the labels of a name begin; an array, as sorting compares names often.
+type places struct {
+	at    [api.MaxName / 2]uint8
+	count int
+}
+
+func placesOf(n string) places {
+	var p places
+	for at := 0; n[at] != 0; at += 1 + int(n[at]) {
+		p.at[p.count] = uint8(at)
+		p.count++
+	}
+	return p
+}
+
+// fromEnd returns the i-th label of a name, counted from the last one, which is the first.
+func (p *places) fromEnd(n string, i int) string {
+	at := int(p.at[p.count-i])
+	return n[at+1 : at+1+int(n[at])]
 }
 
 func sign(n int) int {
